@@ -37,6 +37,10 @@ class Escape:
         self.end = end
 
 
+def same_value(one, other):
+    return one.kind == other.kind and one.told == other.told
+
+
 def read_value(row):
     """The value that the whole row writes, or None."""
     if row == TRUE_WORD:

@@ -1,17 +1,22 @@
 """The calls on two records of layers, and their answers."""
 
-from saylayers.holding import LAYERS, Record
+from saylayers.holding import LAYERS, Record, hold_the_same
 from saylayers.layers import read_layer
-from saylayers.paths import is_path
+from saylayers.paths import PATH_MOST, is_path
+from saylayers.writing import write_settings
 
 LOAD = 1
 DROP = 2
 KIND = 3
 VALUE = 4
+NEXT = 7
+PRINT = 8
+COUNT = 9
+SAME = 10
 
-# By a call's number, what stands behind its k.
-WITH_LAYER = {1: True, 2: True, 3: False, 4: False, 5: False}
-WITH_ROW = {1: True, 2: False, 3: True, 4: True, 5: True}
+# By their numbers, the calls that have a layer behind their k, and those that have a row.
+WITH_LAYER = (1, 2, 6)
+WITH_ROW = (1, 3, 4, 5, 6, 7)
 
 OUT_OF_BOUNDS = -1
 NOTHING_HOLDS = -2
@@ -48,14 +53,16 @@ def answers(calls):
 
 def read_call(calls, at):
     number = calls[at]
+    if number == SAME:
+        return Call(number, 0, 0, (), at + 1)
     k = calls[at + 1]
     layer = 0
     row = ()
     end = at + 2
-    if WITH_LAYER[number]:
+    if number in WITH_LAYER:
         layer = calls[end]
         end += 1
-    if WITH_ROW[number]:
+    if number in WITH_ROW:
         start = end + 1
         end = start + calls[end]
         row = tuple(calls[start:end])
@@ -63,16 +70,30 @@ def read_call(calls, at):
 
 
 def answer_call(records, call):
+    if call.number == SAME:
+        return tell_same(records)
     if call.k >= RECORDS:
         return [OUT_OF_BOUNDS]
     record = records[call.k]
-    if WITH_LAYER[call.number] and call.layer >= LAYERS:
+    if call.number in WITH_LAYER:
+        return answer_at_layer(record, call)
+    if call.number == NEXT:
+        return tell_next(record, call.row)
+    if call.number == PRINT:
+        return tell_text(record)
+    if call.number == COUNT:
+        return tell_count(record)
+    return answer_at_path(record, call.number, call.row)
+
+
+def answer_at_layer(record, call):
+    if call.layer >= LAYERS:
         return [OUT_OF_BOUNDS]
     if call.number == LOAD:
         return load(record, call.layer, call.row)
     if call.number == DROP:
         return drop(record, call.layer)
-    return answer_at_path(record, call.number, call.row)
+    return tell_why(record, call.layer, call.row)
 
 
 def answer_at_path(record, number, path):
@@ -116,3 +137,27 @@ def tell_value(held):
 
 def tell_origin(held):
     return [0, held.layer, held.setting.line]
+
+
+def tell_why(record, layer, path):
+    if not is_path(path):
+        return [OUT_OF_BOUNDS]
+    return [0, record.standing(layer, path)]
+
+
+def tell_next(record, row):
+    if len(row) > PATH_MOST:
+        return [OUT_OF_BOUNDS]
+    return [0] + list(record.first_behind(row))
+
+
+def tell_text(record):
+    return [0] + write_settings(record.held_settings())
+
+
+def tell_count(record):
+    return [0, len(record.order)]
+
+
+def tell_same(records):
+    return [0, 1 if hold_the_same(records[0], records[1]) else 0]

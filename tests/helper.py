@@ -33,6 +33,28 @@ def origin(k, path):
     return [5, k] + counted(path)
 
 
+def why(k, layer, path):
+    return [6, k, layer] + counted(path)
+
+
+def after(k, text):
+    """The call next, under a name that Python does not use."""
+    return [7, k] + counted(text)
+
+
+def printed(k):
+    """The call print, under a name that Python does not use."""
+    return [8, k]
+
+
+def count(k):
+    return [9, k]
+
+
+def same():
+    return [10]
+
+
 def apart(told):
     """The answers one by one, without their counts."""
     found = []
@@ -54,6 +76,12 @@ def run(*calls):
 
 def last(*calls):
     return run(*calls)[-1]
+
+
+def spelled(answer):
+    """The bytes behind an answer's 0, as a text."""
+    assert answer[0] == 0, answer
+    return bytes(answer[1:]).decode("latin-1")
 
 
 def loaded(text):

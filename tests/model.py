@@ -75,6 +75,20 @@ def read_text(text):
     return settings, [0, 0]
 
 
+def write_byte(byte):
+    written = {34: '\\"', 92: "\\\\", 10: "\\n", 9: "\\t"}.get(byte)
+    if written is None:
+        written = "\\x%02x" % byte if byte < 32 or byte == 127 else chr(byte)
+    return written
+
+
+def write_value(told):
+    kind, numbers = told
+    if kind == 3:
+        return '"' + "".join(write_byte(byte) for byte in numbers) + '"'
+    return str(numbers[0]) if kind == 1 else ("false", "true")[numbers[0]]
+
+
 class Model:
     def __init__(self):
         self.records = [[[], [], [], []], [[], [], [], []]]
@@ -140,3 +154,33 @@ class Model:
             if setting[0] == path:
                 return [0, layer, setting[3]]
         return [-2]
+
+    def why(self, k, layer, path):
+        if k > 1 or layer > 3 or not is_path(path):
+            return [-1]
+        for setting in self.records[k][layer]:
+            if setting[0] == path:
+                if self.barred(k, layer, setting):
+                    return [0, 3]
+                if setting[1] is None:
+                    return [0, 4]
+                return [0, 2 if self.hidden(k, layer, setting) else 1]
+        return [0, 0]
+
+    def after(self, k, row):
+        if k > 1 or len(row) > 127:
+            return [-1]
+        return [0] + list(min([s[0] for layer, s in self.holding(k) if s[0] > row], default=b""))
+
+    def printed(self, k):
+        if k > 1:
+            return [-1]
+        lines = sorted((s[0], write_value(s[1])) for layer, s in self.holding(k))
+        return [0] + [byte for path, written in lines for byte in path + b" = " + written.encode("latin-1") + b"\n"]
+
+    def count(self, k):
+        return [-1] if k > 1 else [0, len(self.holding(k))]
+
+    def same(self):
+        one, other = [{s[0]: s[1] for layer, s in self.holding(k)} for k in (0, 1)]
+        return [0, int(one == other)]

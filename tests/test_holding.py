@@ -3,7 +3,7 @@
 import itertools
 import unittest
 
-from tests.helper import drop, kind, load, origin, run, value
+from tests.helper import after, count, drop, kind, load, origin, printed, run, same, value, why
 
 NOTHING = [[0, 0], [-2], [-2]]
 
@@ -184,7 +184,9 @@ class OrderTest(unittest.TestCase):
     PATHS = ("a", "a.b", "a.c", "a.c.d", "c", "c.x", "d", "e", "f")
 
     def asked(self, k):
-        return [call(k, path) for path in self.PATHS for call in (kind, value, origin)]
+        asked = [call(k, path) for path in self.PATHS for call in (kind, value, origin, after)]
+        asked += [why(k, layer, path) for path in self.PATHS for layer in range(4)]
+        return asked + [printed(k), count(k)]
 
     def test_the_order_of_loading_makes_no_difference(self):
         expected = run(*[load(0, layer, self.TEXTS[layer]) for layer in range(4)], *self.asked(0))[4:]
@@ -204,6 +206,12 @@ class OrderTest(unittest.TestCase):
         expected = run(*loads, *self.asked(0))[4:]
         for layer in range(4):
             self.assertEqual(run(*loads, loads[layer], *self.asked(0))[5:], expected, layer)
+
+    def test_records_loaded_in_other_orders_are_the_same(self):
+        loads = [load(0, layer, self.TEXTS[layer]) for layer in range(4)]
+        for order in itertools.permutations(range(4)):
+            calls = [load(1, layer, self.TEXTS[layer]) for layer in order]
+            self.assertEqual(run(*loads, *calls, same())[8], [0, 1], order)
 
 
 class OneKindTest(unittest.TestCase):

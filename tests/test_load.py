@@ -2,7 +2,9 @@
 
 import unittest
 
-from tests.helper import drop, kind, last, load, loaded, origin, path_of, run, value
+from tests.helper import (
+    after, count, drop, kind, last, load, loaded, origin, path_of, printed, row, run, same, value, why,
+)
 
 TAKEN = [0, 0]
 HUGE = 4294967295
@@ -25,6 +27,10 @@ class BoundsTest(unittest.TestCase):
             self.assertEqual(last(kind(k, "a")), [0, 0] if good else [-1], k)
             self.assertEqual(last(value(k, "a")), [-2] if good else [-1], k)
             self.assertEqual(last(origin(k, "a")), [-2] if good else [-1], k)
+            self.assertEqual(last(why(k, 0, "a")), [0, 0] if good else [-1], k)
+            self.assertEqual(last(after(k, "a")), [0] if good else [-1], k)
+            self.assertEqual(last(printed(k)), [0] if good else [-1], k)
+            self.assertEqual(last(count(k)), [0, 0] if good else [-1], k)
 
     def test_layer(self):
         for layer, good in ((0, True), (1, True), (2, True), (3, True), (4, False), (5, False), (HUGE, False)):
@@ -189,10 +195,30 @@ class StateTest(unittest.TestCase):
             self.assertEqual(told[2:], [[-1], [0, 1, 1], [0, 1, 2]])
 
     def test_questions_change_nothing(self):
-        asked = [kind(0, "a"), value(0, "a"), origin(0, "a"), kind(0, ""), value(0, "b"), origin(2, "a"), kind(0, "s")]
+        asked = [
+            kind(0, "a"), value(0, "a"), origin(0, "a"), kind(0, ""), value(0, "b"), origin(2, "a"), kind(0, "s"),
+            why(0, 3, "a"), after(0, "a"), printed(0), count(0), same(),
+        ]
         told = run(load(0, 3, "a = 1\ns.t = 2"), *asked, *asked)
-        self.assertEqual(told[1:8], told[8:])
+        self.assertEqual(told[1:13], told[13:])
         self.assertEqual(told[1:8], [[0, 1], [0, 1, 1], [0, 3, 1], [-1], [-2], [-1], [0, 4]])
+        self.assertEqual(told[8:13], [[0, 1], [0] + row("s.t"), [0] + row("a = 1\ns.t = 2\n"), [0, 2], [0, 0]])
+
+    def test_refused_calls_change_nothing_of_the_whole(self):
+        """T8, looked at with print, count and same."""
+        refused = [load(k, layer, "z = 1") for k, layer in ((2, 0), (HUGE, 3), (0, 4), (1, HUGE), (2, 4))]
+        refused += [load(k, layer, text) for text in self.WRONG for k in (0, 1) for layer in (0, 2)]
+        refused += [drop(2, 0), drop(HUGE, 1), drop(0, 4), drop(1, HUGE)]
+        refused += [asked(k, path) for asked in (kind, value, origin) for k, path in ((2, "a"), (0, ""), (1, "A"))]
+        refused += [why(2, 0, "a"), why(0, 4, "a"), why(1, 0, "a."), after(2, ""), after(0, "a" * 128), printed(2), count(HUGE)]
+        looks = [printed(0), printed(1), count(0), count(1), same(), why(0, 0, "s.t"), why(0, 2, "s.t"), after(0, "a")]
+        loads = [load(k, layer, text) for k in (0, 1) for layer, text in ((0, "a = 1\ns.t ! 2"), (2, "a ! \"x\"\ns ~"))]
+        text = [0] + row("a = \"x\"\ns.t = 2\n")
+        expected = [text, text, [0, 2], [0, 2], [0, 1], [0, 1], [0, 0], [0] + row("s.t")]
+        for call in refused:
+            told = run(*loads, *looks, call, *looks)[4:]
+            self.assertLess(told[8][0], 0, call)
+            self.assertEqual((told[:8], told[9:]), (expected, expected), call)
 
     def test_a_layer_loaded_anew_is_the_new_text_alone(self):
         told = run(

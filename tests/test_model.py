@@ -1,9 +1,10 @@
 """Rows of calls made by chance, but the same ones every time, held against the document's words written out anew."""
 
+import itertools
 import random
 import unittest
 
-from tests.helper import drop, kind, load, origin, path_of, row, run, value
+from tests.helper import after, count, drop, kind, load, origin, path_of, printed, row, run, same, value, why
 from tests.model import Model, touch
 
 NAMES = ("a", "b", "c")
@@ -78,13 +79,17 @@ class ModelTest(unittest.TestCase):
                 expected.append(model.drop(k, layer))
             else:
                 path = maker.noise() if turn == 4 else maker.path()
-                calls += [kind(k, path), value(k, path), origin(k, path)]
+                layer = maker.layer()
+                calls += [kind(k, path), value(k, path), origin(k, path), why(k, layer, path), after(k, path)]
                 expected += [model.kind(k, path), model.value(k, path), model.origin(k, path)]
+                expected += [model.why(k, layer, path), model.after(k, path)]
+                calls += [printed(k), count(k), same()]
+                expected += [model.printed(k), model.count(k), model.same()]
         self.assertEqual(run(*calls), expected, seed)
 
     def test_rows_of_calls(self):
         for seed in range(400):
-            self.compare(seed, 60)
+            self.compare(seed, 50)
 
     def test_texts_of_noise(self):
         chance = random.Random(1)
@@ -122,6 +127,60 @@ class ModelTest(unittest.TestCase):
             told = run(*calls)
             self.assertEqual(told, expected, texts)
             self.no_two_touch([path for place, path in enumerate(paths) if told[4 + 3 * place][0] == 0])
+
+    def test_why_at_every_path_there_is(self):
+        paths = [".".join(names) for size in (1, 2) for names in itertools.product(NAMES, repeat=size)]
+        found = []
+        for seed in range(400):
+            maker = Maker(seed + 2000)
+            model = Model()
+            texts = [maker.text() for layer in range(4)]
+            calls = [load(0, layer, text) for layer, text in enumerate(texts)]
+            expected = [model.load(0, layer, text) for layer, text in enumerate(texts)]
+            calls += [why(0, layer, path) for path in paths for layer in range(4)]
+            expected += [model.why(0, layer, bytes(row(path))) for path in paths for layer in range(4)]
+            self.assertEqual(run(*calls), expected, texts)
+            found += [answer[1] for answer in expected[4:]]
+        self.assertGreater(min(found.count(becomes) for becomes in range(5)), 20)
+
+    def test_records_that_are_often_the_same(self):
+        chance = random.Random(3)
+        values = ("1", "true", "\"1\"", "\"true\"")
+        found = []
+        for turn in range(2000):
+            model = Model()
+            calls = []
+            for k in (0, 1):
+                for layer in (0, 1):
+                    lines = [f"{name} {chance.choice('=!')} {chance.choice(values)}" for name in "ab" if chance.randrange(3)]
+                    chance.shuffle(lines)
+                    text = "\n".join(lines)
+                    calls.append(load(k, layer, text))
+                    model.load(k, layer, text.encode())
+            found.append(run(*calls, same())[4])
+            self.assertEqual(found[-1], model.same(), calls)
+        self.assertGreater(found.count([0, 1]), 50)
+
+    def test_what_is_printed_reads_back(self):
+        """T5 over layers made by chance."""
+        for seed in range(300):
+            maker = Maker(seed + 3000)
+            loads = [load(0, layer, maker.text()) for layer in range(4)]
+            text = run(*loads, printed(0))[4][1:]
+            told = run(*loads, load(1, seed % 4, text), printed(1), same(), count(0), count(1))[4:]
+            self.assertEqual(told[:3], [[0, 0], [0] + text, [0, 1]])
+            self.assertEqual(told[3], told[4])
+
+    def test_walking_meets_what_is_printed(self):
+        for seed in range(100):
+            maker = Maker(seed + 4000)
+            loads = [load(0, layer, maker.text()) for layer in range(4)]
+            lines = bytes(run(*loads, printed(0))[4][1:]).split(b"\n")[:-1]
+            path = b""
+            for line in lines:
+                path = bytes(run(*loads, after(0, path))[4][1:])
+                self.assertEqual(path, line.partition(b" ")[0])
+            self.assertEqual(run(*loads, after(0, path), count(0))[4:], [[0], [0, len(lines)]])
 
     def no_two_touch(self, paths):
         for p in paths:
